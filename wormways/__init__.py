@@ -1,0 +1,1 @@
+"""Wormways: letters in pieces that hold lanes as they go."""
