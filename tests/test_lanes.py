@@ -3,7 +3,9 @@
 import unittest
 
 from tests import worlds
-from wormways.errors import BadLanes, BadPaper
+from tests.askings import handed_lanes
+from wormways.errors import BadLanes, BadPaper, BadRoom
+from wormways.going import Going
 from wormways.orders import knot, needs, order, shows
 
 BAD = (
@@ -18,10 +20,8 @@ BAD = (
 
 
 class Lanes(unittest.TestCase):
-    def refused(self, lanes, paper=()):
-        given = (worlds.STREET, worlds.STREET_TABLE, lanes)
-        for asking in (lambda: needs(*given), lambda: order(*given), lambda: knot(*given),
-                       lambda: shows(*given, list(paper))):
+    def refused(self, lanes, paper=(), room=1):
+        for asking in handed_lanes(worlds.STREET, worlds.STREET_TABLE, lanes, paper, room):
             with self.assertRaises(BadLanes) as caught:
                 asking()
             self.assertIs(type(caught.exception), BadLanes)
@@ -31,11 +31,14 @@ class Lanes(unittest.TestCase):
             with self.subTest(at):
                 self.refused(lanes)
 
-    def test_bad_lanes_are_refused_ahead_of_a_bad_paper(self):
+    def test_bad_lanes_are_refused_ahead_of_a_bad_paper_and_a_bad_room(self):
         for lanes in BAD:
-            self.refused(lanes, [(0, 8), True, (0, 0), (0, 0)])
+            for room in (0, 10, True, ()):
+                self.refused(lanes, [(0, 8), True, (0, 0), (0, 0)], room)
         with self.assertRaises(BadPaper):
             shows(worlds.STREET, worlds.STREET_TABLE, (0, 0, 0, 0), [True])
+        with self.assertRaises(BadRoom):
+            Going(worlds.STREET, worlds.STREET_TABLE, (0, 0, 0, 0), 10)
 
     def test_numbers_from_0_to_7(self):
         net, table = worlds.PAIR, worlds.PAIR_TABLE
@@ -46,6 +49,11 @@ class Lanes(unittest.TestCase):
                 self.assertEqual(order(net, table, lanes), [(0, second), (1, first)])
                 self.assertIsNone(knot(net, table, lanes))
                 self.assertIs(shows(net, table, lanes, [(1, first), (0, second)]), True)
+                going = Going(net, table, lanes, 1)
+                going.send(0, 1, 1)
+                going.send(1, 0, 1)
+                self.assertIs(going.beat(), True)
+                self.assertEqual(going.held(), [((0, second), 0, 1), ((1, first), 1, 1)])
 
     def test_a_letter_goes_on_its_goals_number(self):
         told = order(worlds.STREET, worlds.STREET_TABLE, (4, 5, 6, 7))

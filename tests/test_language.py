@@ -2,6 +2,7 @@
 
 import ast
 import builtins
+import functools
 import pathlib
 import re
 import unittest
@@ -10,14 +11,23 @@ PACKAGE = pathlib.Path(__file__).resolve().parent.parent / "wormways"
 FILES = sorted(path for path in PACKAGE.rglob("*") if path.is_file() and path.suffix != ".pyc")
 INTERFACE = {"errors.py": ("WormError", "BadNet", "BadTable", "BadLanes", "BadPaper", "BadLetter", "BadRoom", "BadTies",
                            "BadText"),
-             "orders.py": ("needs", "order", "knot", "shows"), "fewest.py": ("fewest",)}
+             "orders.py": ("needs", "order", "knot", "shows"), "fewest.py": ("fewest",), "going.py": ("Going",),
+             "bending.py": ("bent",), "notes.py": ("written", "read")}
+METHODS = {"Going": ("send", "beat", "is_over", "held", "come")}
+# The methods of builtin values that the package may call.
+BUILTIN = ("append clear copy count endswith extend find get index insert isalnum isalpha isdigit islower isspace "
+           "isupper items join keys ljust lower lstrip partition pop remove replace reverse rfind rjust rpartition "
+           "rsplit rstrip setdefault split splitlines startswith strip update upper values zfill bit_length "
+           "isascii").split()
 BARRED = ("type typing typing_extensions enum Enum IntEnum StrEnum Flag IntFlag Generic Protocol ABC ABCMeta namedtuple "
           "NamedTuple TypedDict TYPE_CHECKING abstractmethod register mro elements open input law id os vars").split()
 USABLE = ("len range enumerate zip min max sum abs sorted reversed int str bool list tuple dict set isinstance ord any "
           "all divmod ValueError").split()
 
 
+@functools.cache
 def trees():
+    # The same nodes each time, so that they can be told apart.
     return [(path.name, ast.parse(path.read_text())) for path in FILES]
 
 
@@ -40,6 +50,30 @@ class Language(unittest.TestCase):
             defined = {node.name for node in tree.body if isinstance(node, (ast.FunctionDef, ast.ClassDef))}
             self.assertLessEqual(set(INTERFACE.get(name, ())), defined)
         self.assertLessEqual(set(INTERFACE), {path.name for path in FILES})
+
+    def test_methods_of_the_interface_stand_in_the_class_itself(self):
+        for where, node in nodes(ast.ClassDef):
+            defined = {row.name for row in node.body if isinstance(row, ast.FunctionDef)}
+            self.assertLessEqual(set(METHODS.get(node.name, ())), defined, where)
+
+    def test_no_name_is_a_method_and_an_attribute_and_all_attributes_are_assigned(self):
+        methods = {row.name for where, node in nodes(ast.ClassDef) for row in node.body
+                   if isinstance(row, ast.FunctionDef)}
+        called = {node.func for where, node in nodes(ast.Call) if isinstance(node.func, ast.Attribute)}
+        stored = {node.attr for where, node in nodes(ast.Attribute) if isinstance(node.ctx, ast.Store)}
+        self.assertEqual(methods & stored, set())
+        self.assertEqual((methods | stored) & {name for kind in (str, int, list, dict, set, bytes, tuple)
+                                               for name in dir(kind) if not name.startswith("_")}, set())
+        for where, node in nodes(ast.Attribute):
+            if node in called:
+                self.assertIn(node.attr, {"__init__", *methods, *BUILTIN}, where)
+            else:
+                self.assertIn(node.attr, stored, where)
+
+    def test_calls_pass_no_more_than_is_allowed_by_keyword(self):
+        for where, node in nodes(ast.Call):
+            for keyword in node.keywords:
+                self.assertIn((node.func.id, keyword.arg), (("sorted", "key"), ("min", "key")), where)
 
     def test_sizes_and_signs(self):
         for path in FILES:

@@ -4,20 +4,18 @@ import random
 import unittest
 
 from tests import worlds
+from tests.askings import handed_nets
+from wormways.bending import bent
 from wormways.errors import BadNet
 from wormways.fewest import fewest
+from wormways.going import Going
+from wormways.notes import read, written
 from wormways.orders import knot, needs, order, shows
 
 
-def askings(net, table, lanes, paper):
-    """Each function that is handed a net, as calls without arguments."""
-    return (lambda: needs(net, table, lanes), lambda: order(net, table, lanes), lambda: knot(net, table, lanes),
-            lambda: shows(net, table, lanes, paper), lambda: fewest(net, table))
-
-
 class Nets(unittest.TestCase):
-    def refused(self, net, table=((-1, -1), (-1, -1)), lanes=(0, 0), paper=()):
-        for asking in askings(net, table, lanes, list(paper)):
+    def refused(self, net, table=((-1, -1), (-1, -1)), lanes=(0, 0), paper=(), room=1, fallen=(), root=0):
+        for asking in handed_nets(net, table, lanes, paper, room, fallen, root):
             with self.assertRaises(BadNet) as caught:
                 asking()
             self.assertIs(type(caught.exception), BadNet)
@@ -25,7 +23,7 @@ class Nets(unittest.TestCase):
     def taken(self, net):
         """The net with a table that tells no way, and with one that tells some."""
         many, ties = net
-        tables = [worlds.empty_table(many), worlds.random_table(random.Random(1), net)]
+        tables = [worlds.empty_table(many), worlds.random_table(random.Random(1), net), bent(net, [], many - 1)]
         for table in tables:
             lanes = tuple(range(many))
             told = order(net, table, lanes)
@@ -34,6 +32,19 @@ class Nets(unittest.TestCase):
             self.assertIsNone(knot(net, table, lanes))
             self.assertIs(shows(net, table, lanes, told), True)
             self.assertEqual(len(fewest(net, table)), many)
+            self.assertEqual(read(written(net, table)), (net, table))
+            self.goes(net, table, lanes)
+        self.assertEqual(bent(net, list(range(len(ties))), 0), worlds.empty_table(many))
+
+    def goes(self, net, table, lanes):
+        """One letter on each way that the table tells."""
+        going = Going(net, table, lanes, 1)
+        letters = sorted(worlds.ways(net, table, lanes))
+        for start, goal in letters:
+            going.send(start, goal, 1)
+        while not going.is_over():
+            self.assertIs(going.beat(), True)
+        self.assertEqual(sorted(going.come()), list(range(len(letters))))
 
     def test_two_to_eight_houses(self):
         for many in range(2, 9):
@@ -80,7 +91,7 @@ class Nets(unittest.TestCase):
         for net in worlds.BAD_NETS:
             for table in (good, 0, (), ((0, 5), (True, ()))):
                 for lanes in ((0, 0), 0, (8, 8)):
-                    self.refused(net, table, lanes, [(0, 8), 3])
+                    self.refused(net, table, lanes, [(0, 8), 3], 10, [99, True], 8)
 
 
 if __name__ == "__main__":

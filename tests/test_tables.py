@@ -4,8 +4,11 @@ import random
 import unittest
 
 from tests import worlds
+from tests.askings import handed_tables
 from wormways.errors import BadTable
 from wormways.fewest import fewest
+from wormways.going import Going
+from wormways.notes import read, written
 from wormways.orders import knot, needs, order, shows
 
 # Houses 0 to 3 with ties both ways between neighbours of a ring, and one across.
@@ -43,12 +46,9 @@ def place_of(net, table):
 
 
 class Tables(unittest.TestCase):
-    def refused(self, place, table, net=NET, lanes=(0, 0, 0, 0), paper=()):
+    def refused(self, place, table, net=NET, lanes=(0, 0, 0, 0), paper=(), room=1):
         self.assertEqual(place_of(net, table), place)
-        askings = (lambda: needs(net, table, lanes), lambda: order(net, table, lanes),
-                   lambda: knot(net, table, lanes), lambda: shows(net, table, lanes, list(paper)),
-                   lambda: fewest(net, table))
-        for asking in askings:
+        for asking in handed_tables(net, table, lanes, paper, room):
             with self.assertRaises(BadTable) as caught:
                 asking()
             self.assertEqual(caught.exception.place, place)
@@ -63,6 +63,10 @@ class Tables(unittest.TestCase):
         self.assertIsNone(knot(net, table, lanes))
         self.assertIs(shows(net, table, lanes, order(net, table, lanes)), True)
         self.assertEqual(len(fewest(net, table)), many)
+        self.assertEqual(read(written(net, table)), (net, table))
+        going = Going(net, table, lanes, 1)
+        for number, (start, goal) in enumerate(worlds.ways(net, table, lanes)):
+            self.assertEqual(going.send(start, goal, 1), number)
 
     def test_tables_that_are_right(self):
         self.taken(TABLE)
@@ -230,11 +234,11 @@ class Tables(unittest.TestCase):
         self.assertGreater(wrong, 50)
         self.assertGreater(right, 50)
 
-    def test_a_bad_table_is_refused_ahead_of_bad_lanes_and_papers(self):
+    def test_a_bad_table_is_refused_ahead_of_bad_lanes_papers_and_rooms(self):
         for lanes in (0, (), (8, 8, 8, 8), (True, 0, 0, 0)):
-            self.refused((0, 0), 0, lanes=lanes, paper=[3])
-            self.refused((2, 1), worlds.put(TABLE, 2, 1, ()), lanes=lanes, paper=[(99, 99)])
-            self.refused((1, 3), worlds.put(TABLE, 2, 3, 5), lanes=lanes, paper=[(0, 0), (0, 0)])
+            self.refused((0, 0), 0, lanes=lanes, paper=[3], room=0)
+            self.refused((2, 1), worlds.put(TABLE, 2, 1, ()), lanes=lanes, paper=[(99, 99)], room=10)
+            self.refused((1, 3), worlds.put(TABLE, 2, 3, 5), lanes=lanes, paper=[(0, 0), (0, 0)], room=True)
 
 
 if __name__ == "__main__":

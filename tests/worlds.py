@@ -86,6 +86,16 @@ def ring_and_more(chance, many, count):
     return many, tuple(chance.sample(ties, len(ties)))
 
 
+def joined_net(chance, many, joined, single):
+    """A net with so many pairs of ties both ways, and single ties beside them, as far as there can be."""
+    pairs = [pair for pair in pairs_of_houses(many) if pair[0] < pair[1]]
+    pairs = chance.sample(pairs, min(joined, len(pairs)))
+    ties = pairs + [(end, begin) for begin, end in pairs]
+    rest = [pair for pair in pairs_of_houses(many) if pair not in ties and pair[::-1] not in ties]
+    ties += chance.sample(rest, min(single, len(rest), 24 - len(ties)))
+    return many, tuple(chance.sample(ties, len(ties)))
+
+
 def random_table(chance, net, deep=False, gaps=0.0):
     """A table whose ways to each goal grow from it, at random; some of the far ends are left out."""
     many, ties = net

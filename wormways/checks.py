@@ -1,6 +1,6 @@
-"""Refusing nets, tables, lanes and papers that are none."""
+"""Refusing nets, tables, lanes, papers and fallen ties that are none."""
 
-from wormways.errors import BadLanes, BadNet, BadPaper, BadTable
+from wormways.errors import BadLanes, BadNet, BadPaper, BadTable, BadTies
 
 LEAST_HOUSES = 2
 MOST_HOUSES = 8
@@ -115,6 +115,17 @@ def check_paper(net, paper):
         if lane in seen:
             raise BadPaper("no lane stands in a paper twice")
         seen[lane] = True
+
+
+def check_ties(net, fallen, root):
+    """Refuse, by BadTies, what is no list of the net's ties, and a root that is no house of it."""
+    if not isinstance(fallen, list):
+        raise BadTies("fallen ties are told in a list")
+    for tie in fallen:
+        if not is_number(tie, 0, len(net[1]) - 1):
+            raise BadTies("ties that fall are ties that there are")
+    if not is_number(root, 0, net[0] - 1):
+        raise BadTies("a root is a house that there is")
 
 
 def check_all(net, table, lanes):

@@ -31,6 +31,17 @@ def second_lane(net, table, lanes, letter):
     return (table[house][goal], lanes[goal])
 
 
+def way_lanes(net, table, lanes, letter):
+    """All lanes of a letter's way, from its start on."""
+    house, goal = letter
+    told = []
+    while house != goal:
+        tie = table[house][goal]
+        told.append((tie, lanes[goal]))
+        house = net[1][tie][1]
+    return told
+
+
 def first_lanes(table, lanes):
     """All lanes that are the first one of some letter, rising."""
     return sorted({first_lane(table, lanes, letter) for letter in all_letters(table)})
